@@ -361,32 +361,37 @@ func TestUpdatesUpTo400Nodes(t *testing.T) {
 	wantUpdated(t, storeOf(leafTexts(0, 400)...), nil, "a", "")
 }
 
-func TestUpdatesOfARootThatIsNotThere(t *testing.T) {
+// lostRoots asks of stores with roots at which they have no pairs, one way or another.
+func lostRoots(t *testing.T, ask func(why string, list []impl.Stored, root string)) {
+	t.Helper()
 	pairs := pairsOf("do", "verb", "dog", "puppy", "horse", "stallion")
 	list, root := trieNodes(t, pairs), trieRoot(t, pairs)
-	wantNeither := func(why string, list []impl.Stored, root string) {
+	for _, wrong := range []string{"", "x", hash(1), root[:31], root + "\x00", impl.EmptyRoot()[:31], impl.EmptyRoot() + "x"} {
+		ask("another root", list, wrong)
+		ask("another root", nil, wrong)
+	}
+	ask("no nodes", nil, root)
+	for i := range list {
+		ask("a node taken out", slices.Delete(slices.Clone(list), i, i+1), root)
+	}
+	for _, wrong := range wrongStores(t) {
+		ask("a store that is not right", wrong, trieRoot(t, pairs[:2]))
+		ask("a store that is not right", wrong, impl.EmptyRoot())
+	}
+	leaf := leafItem(t, "\x01", "1")
+	long := longItem(t, "\x06", leaf)
+	ask("a root that no pairs have", storeOf(leaf, long), librarySum(long))
+	ask("half a key", storeOf(leaf), librarySum(leaf))
+}
+
+func TestUpdatesOfARootThatIsNotThere(t *testing.T) {
+	lostRoots(t, func(why string, list []impl.Stored, root string) {
 		t.Helper()
 		for _, key := range []string{"", "do", "dog", "none"} {
 			wantNotPut(t, why, list, root, key, "x")
 			wantNotCut(t, why, list, root, key)
 		}
-	}
-	for _, wrong := range []string{"", "x", hash(1), root[:31], root + "\x00", impl.EmptyRoot()[:31], impl.EmptyRoot() + "x"} {
-		wantNeither("another root", list, wrong)
-		wantNeither("another root", nil, wrong)
-	}
-	wantNeither("no nodes", nil, root)
-	for i := range list {
-		wantNeither("a node taken out", slices.Delete(slices.Clone(list), i, i+1), root)
-	}
-	for _, wrong := range wrongStores(t) {
-		wantNeither("a store that is not right", wrong, trieRoot(t, pairsOf("do", "verb", "dog", "puppy")))
-		wantNeither("a store that is not right", wrong, impl.EmptyRoot())
-	}
-	leaf := leafItem(t, "\x01", "1")
-	long := longItem(t, "\x06", leaf)
-	wantNeither("a root that no pairs have", storeOf(leaf, long), librarySum(long))
-	wantNeither("half a key", storeOf(leaf), librarySum(leaf))
+	})
 }
 
 // One store behind many updates: each root that there was still has its pairs.
