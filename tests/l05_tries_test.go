@@ -341,6 +341,7 @@ func wantTrie(t *testing.T, list []impl.Pair, top string, others ...string) {
 
 func TestRootsNodeByNode(t *testing.T) {
 	wantTrie(t, pairsOf("a", "1"), "\xc4\x82\x20\x611")
+	wantTrie(t, pairsOf("a", "b"), "\xc4\x82\x20ab")
 	wantTrie(t, pairsOf("", "1"), "\xc2\x201")
 	wantTrie(t, pairsOf("", "\x80"), "\xc3\x20\x81\x80")
 	wantTrie(t, pairsOf("abcdefghijkl", letters(60)), "\xf8\x4c\x8d\x20abcdefghijkl\xb8\x3c"+letters(60))
